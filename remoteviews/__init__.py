@@ -1,0 +1,1 @@
+"""User interfaces drawn by a server and shown by far clients."""
