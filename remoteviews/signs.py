@@ -1,7 +1,7 @@
 """Lines as lists of signs: how they are read and written, and literals."""
 
 from remoteviews.errors import BadSigns
-from remoteviews.values import is_character, is_digit, is_name, plain
+from remoteviews.values import is_character, is_digit, is_name, is_scalar, plain
 
 MARKS = ("(", ")", ",", "=")
 QUOTE = '"'
@@ -42,6 +42,40 @@ def literal(value):
     if value[0] == "map":
         return _map_signs(value[1])
     return [_scalar_sign(value)]
+
+
+def scalar_of(sign):
+    """The scalar that has this sign as its literal, or None."""
+    kind, content = sign
+    if kind == "quoted":
+        return _if_scalar(("text", content))
+    if kind == "number":
+        return _if_scalar(("int", content))
+    if sign == ("name", "none"):
+        return ("none",)
+    if sign in (("name", "true"), ("name", "false")):
+        return ("bool", content == "true")
+    return None
+
+
+def is_at(signs, at, sign):
+    """Whether a sign stands at an index of a list of signs."""
+    return at < len(signs) and signs[at] == sign
+
+
+def separated(rows):
+    """The list of the signs of several rows, with commas between them."""
+    signs = []
+    for place, row in enumerate(rows):
+        if place > 0:
+            signs.append(COMMA)
+        signs.extend(row)
+    return signs
+
+
+def enclosed(rows):
+    """The list of the signs of several rows, with commas between them, in parentheses."""
+    return [LEFT] + separated(rows) + [RIGHT]
 
 
 def _read_sign(line, start):
@@ -115,13 +149,11 @@ def _escaped(text):
 
 
 def _map_signs(entries):
-    signs = [("name", "map"), LEFT]
-    for place, (key, scalar) in enumerate(entries):
-        if place > 0:
-            signs.append(COMMA)
-        signs.extend([("quoted", key), COMMA, _scalar_sign(scalar)])
-    signs.append(RIGHT)
-    return signs
+    rows = []
+    for key, scalar in entries:
+        rows.append([("quoted", key)])
+        rows.append([_scalar_sign(scalar)])
+    return [("name", "map")] + enclosed(rows)
 
 
 def _scalar_sign(scalar):
@@ -132,3 +164,7 @@ def _scalar_sign(scalar):
     if scalar[0] == "none":
         return ("name", "none")
     return ("name", plain(scalar))
+
+
+def _if_scalar(thing):
+    return thing if is_scalar(thing) else None

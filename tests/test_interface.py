@@ -17,6 +17,20 @@ FUNCTIONS = {
         "write_signs": ["signs"],
         "literal": ["value"],
     },
+    "expressions": {
+        "read_expression": ["signs", "at"],
+        "expression_signs": ["expression"],
+        "variables": ["expression"],
+    },
+    "evaluation": {
+        "evaluate": ["expression", "scope", "provided", "resources"],
+    },
+    "templates": {
+        "parse_template": ["text"],
+    },
+    "writing": {
+        "template_text": ["template"],
+    },
 }
 ERRORS = {
     "ViewError": [],
