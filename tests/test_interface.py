@@ -31,6 +31,23 @@ FUNCTIONS = {
     "writing": {
         "template_text": ["template"],
     },
+    "trees": {
+        "apply_patch": ["tree", "patch"],
+        # LANGUAGE.md does not allow the name id for it.
+        "find": ["tree", "node_id"],
+        "ids": ["tree"],
+    },
+    "diffs": {
+        "goes_over": ["one", "other"],
+        "diff": ["one", "other"],
+        "staying": ["places"],
+    },
+    "messages": {
+        "write_update": ["update"],
+        "read_update": ["text"],
+        "write_report": ["report"],
+        "read_report": ["text"],
+    },
 }
 ERRORS = {
     "ViewError": [],
