@@ -12,7 +12,7 @@ from remoteviews.values import is_scalar
 OUTCOMES = ("applied", "failed", "unhandled", "stale", "removed", "conflict")
 
 # The kinds of the signs of those parts that are one sign and its content.
-SIGN_KINDS = {"NAME": "name", "NUMBER": "number", "CONTENT": "quoted", "OUTCOME": "name"}
+SIGN_KINDS = {"NAME": "name", "NUMBER": "number", "CONTENT": "quoted", "QUOTED": "quoted", "OUTCOME": "name"}
 
 
 class BadForm(ViewError):
@@ -69,6 +69,8 @@ def _read_value(part, signs, at):
     """The value of a part that begins at an index, and the index behind it."""
     if part == "EXPRESSION":
         return _read_expression(signs, at)
+    if part == "VALUE":
+        return _read_literal(signs, at)
     if part == "NAMES":
         return _read_separated("NAME", signs, at)
     if part == "PARAMETERS":
@@ -87,6 +89,13 @@ def _read_expression(signs, at):
         return read_expression(signs, at)
     except BadExpression:
         raise BadForm()
+
+
+def _read_literal(signs, at):
+    expression, end = _read_expression(signs, at)
+    if expression[0] != "literal":
+        raise BadForm()
+    return expression[1], end
 
 
 def _read_separated(part, signs, at):
@@ -135,7 +144,7 @@ def _value_signs(part, value):
     """The list of the signs of the value of a part."""
     if part == "EXPRESSION":
         return expression_signs(value)
-    if part == "SCALAR":
+    if part in ("SCALAR", "VALUE"):
         return literal(value)
     if part == "NAMES":
         return separated([_value_signs("NAME", name) for name in value])

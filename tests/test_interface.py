@@ -48,6 +48,74 @@ FUNCTIONS = {
         "write_report": ["report"],
         "read_report": ["text"],
     },
+    "rendering": {
+        "render": ["template", "client", "shared", "resources", "instances"],
+    },
+    "identity": {
+        "numbered": ["visited", "kept", "next_number"],
+        "with_ids": ["nodes", "instances", "newest", "next_id"],
+        "keys": ["nodes", "ids", "instances"],
+        "drawing": ["layers", "nodes", "ids"],
+    },
+    "events": {
+        "handler_at": ["rows", "node", "event"],
+        "run": ["template", "nodes", "ids", "at", "event", "scalar", "resources"],
+    },
+    "entries": {
+        "write_entry": ["entry"],
+        "read_entry": ["line"],
+    },
+    "server": {
+        "replay": ["lines"],
+    },
+}
+# Each class with its methods, all defined in the class itself.
+CLASSES = {
+    "sessions": ("Session", {
+        "__init__": ["client"],
+        "draw": ["template", "shared", "resources"],
+        "newest": [],
+        "kept": ["version"],
+        "decide": ["event"],
+    }),
+    "server": ("Server", {
+        "__init__": ["name", "text"],
+        "connect": [],
+        "disconnect": ["client"],
+        "dispatch": ["client", "node", "event", "scalar"],
+        "resolve": ["resource", "value"],
+        "replace": ["text"],
+        "receive": ["text"],
+        "update": ["client"],
+        "session": ["client"],
+        "outcomes": ["client"],
+        "shared": [],
+        "log": [],
+        "saved": [],
+        "clients": [],
+    }),
+    "client": ("View", {
+        "__init__": ["server", "client"],
+        "receive": ["text"],
+        "queue": ["node", "event", "scalar"],
+        "report": [],
+        "tree": [],
+        "version": [],
+        "outcomes": [],
+        "outstanding": [],
+    }),
+    "world": ("World", {
+        "__init__": ["name", "text"],
+        "connect": [],
+        "disconnect": ["client"],
+        "update": ["client"],
+        "report": ["client"],
+        "wire": [],
+        "drop": ["place"],
+        "double": ["place"],
+        "deliver": ["place"],
+        "stop": ["count"],
+    }),
 }
 ERRORS = {
     "ViewError": [],
@@ -71,6 +139,17 @@ class Interface(unittest.TestCase):
                 self.assertTrue(inspect.isfunction(function), name)
                 self.assertEqual(function.__module__, module.__name__, name)
                 self.assertEqual(list(inspect.signature(function).parameters), arguments, name)
+
+    def test_classes(self):
+        for file, (name, methods) in CLASSES.items():
+            module = importlib.import_module("remoteviews." + file)
+            kind = getattr(module, name)
+            self.assertTrue(inspect.isclass(kind), name)
+            self.assertEqual(kind.__module__, module.__name__, name)
+            for method, arguments in methods.items():
+                self.assertIn(method, vars(kind), name)
+                parameters = list(inspect.signature(vars(kind)[method]).parameters)
+                self.assertEqual(parameters, ["self"] + arguments, method)
 
     def test_errors(self):
         module = importlib.import_module("remoteviews.errors")
