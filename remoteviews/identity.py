@@ -9,7 +9,8 @@ def numbered(visited, kept, next_number):
             number = next_number
             next_number += 1
         instances.append((path, number, component, states))
-    return tuple(instances) + kept, next_number
+    instances.extend(kept)
+    return tuple(instances), next_number
 
 
 def with_ids(nodes, instances, newest, next_id):
